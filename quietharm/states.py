@@ -37,7 +37,7 @@ def right_shelves(keep, plan, state, block):
     """The shelves that were not put out with a right copy of the block, ascending."""
     check_state(keep, plan, state)
     check_block(keep, block)
-    return [shelf for shelf in shelves_left(state) if halves_on(state, shelf, block) == right_halves(block)]
+    return right_ones(state, block)
 
 
 def check_state(keep, plan, state):
@@ -68,6 +68,11 @@ def halves_on(state, shelf, block):
     """The pair of the halves of the copy of a block on a shelf that was not put out."""
     first, second, note, late = cell_on(state, shelf, block)
     return (first, second)
+
+
+def right_ones(state, block):
+    """As right_shelves, of a state and a block that are known to be such."""
+    return [shelf for shelf in shelves_left(state) if halves_on(state, shelf, block) == right_halves(block)]
 
 
 def right_halves(block):

@@ -4,6 +4,7 @@ import itertools
 import unittest
 
 from builders import CHOICES, KINDS, EqualToAll, cell, copies, one, right, state
+from model import look_by_the_words
 
 from quietharm.errors import BadBlock, BadKeep, BadPlan, BadState
 from quietharm.keeps import Keep, Plan
@@ -18,34 +19,6 @@ IN_ORDER = Plan(("bare",), (0, 1, 2))
 NO = (False, False)
 FIRST = one(right(), right())
 MINE, OTHER, OLD, OLDER = (0, 0), (1, 0), (0, 1), (0, 2)
-
-
-def told_by_the_words(plan, told, block):
-    """Both answers, written once more after the words of promise 4."""
-    shelves, harms, given_up = told
-    passed = []
-    for number, shelf in enumerate(shelves):
-        if shelf is None:
-            continue
-        first, second, note, late = shelf[0][block]
-        later = itertools.chain(range(number + 1, len(shelves)), range(number + 1))
-        note = next(shelves[at][0][block][2] for at in later if shelves[at] is not None)
-        one_write = first is not None and second is not None and first == second
-        tests = {"bare": True, "whole": one_write, "named": one_write and first[0] == block,
-                 "noted": one_write and first == (block, note)}
-        if tests[plan.sums[block]]:
-            passed.append(number)
-    places = [shelf for shelf in plan.order if shelf in passed]
-    if given_up[block] or not places:
-        return passed, None
-    halves = {shelf: shelves[shelf][0][block][:2] for shelf in places}
-    scores = {shelf: 0 for shelf in places}
-    if plan.choice == "newest":
-        scores = {shelf: -pair[0][1] if pair[0] and pair[0][0] == block else -99 for shelf, pair in halves.items()}
-    if plan.choice == "most":
-        scores = {shelf: list(halves.values()).count(pair) for shelf, pair in halves.items()}
-    best = [shelf for shelf in places if scores[shelf] == max(scores.values())]
-    return passed, halves[best[0]]
 
 
 class PassesTest(unittest.TestCase):
@@ -226,7 +199,7 @@ class SweepTest(unittest.TestCase):
     def assert_as_told(self, keep, plan, told):
         for block in range(keep.blocks):
             found = (passes(keep, plan, told, block), look(keep, plan, told, block))
-            self.assertEqual(found, told_by_the_words(plan, told, block), (vars(plan), told, block))
+            self.assertEqual(found, look_by_the_words(plan, told, block), (vars(plan), told, block))
 
     def test_one_block_on_three_shelves(self):
         pairs = list(itertools.product((None, MINE, OLD), repeat=2))

@@ -1,19 +1,34 @@
-"""What README.md shows is what the program does."""
+"""What README.md shows, and the examples of the interface in examples.md, are what the program does."""
 
 import doctest
 import pathlib
 import unittest
 
-README = pathlib.Path(__file__).resolve().parent.parent / "README.md"
+FOLDER = pathlib.Path(__file__).resolve().parent
+
+
+def outcome(name, text):
+    shown = doctest.DocTestParser().get_doctest(text.replace("```", ""), {}, name, name, 0)
+    return doctest.DocTestRunner().run(shown)
 
 
 class ReadmeTest(unittest.TestCase):
     def test_examples(self):
-        text = README.read_text(encoding="ascii").replace("```", "")
-        shown = doctest.DocTestParser().get_doctest(text, {}, "README.md", str(README), 0)
-        found = doctest.DocTestRunner().run(shown)
+        found = outcome("README.md", (FOLDER.parent / "README.md").read_text(encoding="ascii"))
         self.assertGreater(found.attempted, 5)
         self.assertEqual(found.failed, 0)
+
+
+class InterfaceTest(unittest.TestCase):
+    def test_examples_of_each_section(self):
+        sections = (FOLDER / "examples.md").read_text(encoding="ascii").split("\n## ")[1:]
+        names = [section.split("\n")[0] for section in sections]
+        self.assertEqual(names, [f"quietharm/{name}.py" for name in ("keeps", "deeds", "rounds", "judging", "sights")])
+        for name, section in zip(names, sections):
+            with self.subTest(name=name):
+                found = outcome(name, section)
+                self.assertGreater(found.attempted, 2)
+                self.assertEqual(found.failed, 0)
 
 
 if __name__ == "__main__":
