@@ -148,15 +148,13 @@ def known_words(keep):
 
 def possible_deeds(keep, state):
     """As deeds, of a state that is known to be one."""
-    found = []
     words = possible_words(keep, state)
-    for block in range(keep.blocks):
-        found.extend([("write", block, told) for told in words])
+    writes = [("write", block, told) for block in range(keep.blocks) for told in words]
     places = [(shelf, block) for shelf in shelves_left(state) for block in range(keep.blocks)]
-    found.extend([("land", shelf, block) for shelf, block in places])
-    found.extend([("wear", shelf, block, half) for shelf, block in places for half in (0, 1)])
-    found.append(("round",))
-    return [deed for deed in found if is_possible(keep, state, deed)]
+    others = [("land", shelf, block) for shelf, block in places]
+    others.extend([("wear", shelf, block, half) for shelf, block in places for half in (0, 1)])
+    others.append(("round",))
+    return writes + [deed for deed in others if is_possible(keep, state, deed)]
 
 
 def possible_words(keep, state):

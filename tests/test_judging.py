@@ -275,6 +275,13 @@ class SafeTest(unittest.TestCase):
         self.assertIs(Safe(states).shows(Keep(2, 1), NEWEST), True)
         self.assertIs(Safe([START]).shows(Keep(2, 1, ("lost", "torn"), most=0), NEWEST), True)
 
+    def test_things_that_are_no_states(self):
+        states = all_states(ONE, NEWEST)
+        for odd in (None, 0, True, [], {}, list(START), START[:2], (START[0], False, START[2]), (START[0], 2, START[2]),
+                    one(right(note=0), right(note=0)), one(cell((0, 2), (0, 2)), right()), EqualToAll()):
+            self.assertIs(Safe(states + [odd]).shows(ONE, NEWEST), False)
+            self.assertIs(Safe([odd]).shows(ONE, NEWEST), False)
+
     def test_more_states_than_are_looked_at_elsewhere(self):
         for keep, plan in BEYOND[:2]:
             states = list(reach_by_the_words(keep, plan, most=402))
