@@ -1,11 +1,11 @@
 """Deeds: writes, landings, wear and rounds; which are possible, what is behind them, and which states come about."""
 
 from quietharm.checks import is_between, is_group, is_one_of
-from quietharm.errors import BadDeed, BadHistory, NotNow, TooLarge
+from quietharm.errors import BadDeed, BadHistory, NotNow
 from quietharm.rounds import swept
 from quietharm.states import ages_left, cell_on, check_state, first_state, shelves_left
+from quietharm.ways import explored
 
-MOST_STATES = 400
 WORDS = ("done", "astray", "late", "lost", "torn")
 # The age of a new write until ages are numbered anew: it is newer than what was the last one.
 NEW = -1
@@ -51,55 +51,12 @@ def all_states(keep, plan):
 
 def all_steps(keep, plan):
     """A dict from each state that comes about, the first one first, to its steps."""
-    start = first_state(keep, plan)
-    found = {start: []}
-    waiting = [start]
-    while waiting:
-        state = waiting.pop()
-        ahead = steps(keep, plan, state)
-        found[state] = ahead
-        for deed, later in ahead:
-            if later not in found:
-                found[later] = []
-                waiting.append(later)
-        if len(found) > MOST_STATES:
-            raise TooLarge("more states come about than are looked at")
-    return found
+    return explored(first_state(keep, plan), lambda state: steps(keep, plan, state))
 
 
 def steps(keep, plan, state):
     """All pairs of a possible deed and the state behind it, in the order of the deeds."""
     return [(deed, behind(plan, state, deed)) for deed in possible_deeds(keep, state)]
-
-
-def cheapest_ways(found, price):
-    """A cheapest way to each state in what all_steps found, the cheaper ones first; a deed costs price(deed).
-
-    A way is a pair of what all deeds cost and of the last step: the state before and the deed, None at the start.
-    """
-    ways = {}
-    waiting = {0: [(list(found)[0], None)]}
-    while waiting:
-        total = min(list(waiting))
-        next_ones = waiting.pop(total)
-        for state, last in next_ones:
-            if state not in ways:
-                ways[state] = (total, last)
-                for deed, later in found[state]:
-                    if later not in ways:
-                        waiting.setdefault(total + price(deed), []).append((later, (state, deed)))
-    return ways
-
-
-def history_to(ways, state):
-    """The list of the deeds on the way to a state."""
-    history = []
-    last = ways[state][1]
-    while last is not None:
-        state, deed = last
-        history.append(deed)
-        last = ways[state][1]
-    return history[::-1]
 
 
 def states_along(keep, plan, start, history):
@@ -164,7 +121,7 @@ def possible_words(keep, state):
     for shelf in state[0]:
         words = ["done"] if shelf is None else known
         longer = [row + (word,) for row in rows for word in words]
-        rows = [row for row in longer if harmful(row) <= keep.most - state[1]]
+        rows = [row for row in longer if len(harmful(row)) <= keep.most - state[1]]
     return rows
 
 
@@ -186,14 +143,19 @@ def is_possible(keep, state, deed):
 
 def harms_of(deed):
     """The number of harms in a deed."""
+    return len(harm_words(deed))
+
+
+def harm_words(deed):
+    """The words of all harms in a deed, some perhaps more than once."""
     if deed[0] == "write":
         return harmful(deed[2])
-    return 1 if deed[0] == "wear" else 0
+    return ["worn"] if deed[0] == "wear" else []
 
 
 def harmful(words):
-    """How many words of a write tell of a harm."""
-    return len([word for word in words if word != "done"])
+    """The words of a write that tell of a harm."""
+    return [word for word in words if word != "done"]
 
 
 def behind(plan, state, deed):
@@ -217,7 +179,7 @@ def written(plan, state, deed):
     block, words = deed[1:]
     shelves = tuple([None if shelf is None else written_shelf(plan, shelf, block, word)
                      for shelf, word in zip(shelves, words)])
-    return (shelves, harms + harmful(words), replaced(given_up, block, False))
+    return (shelves, harms + len(harmful(words)), replaced(given_up, block, False))
 
 
 def written_shelf(plan, shelf, block, word):

@@ -1,11 +1,12 @@
 """Wishes: whether each is fulfilled after all histories, with the states that show it, or a history after which not."""
 
 from quietharm.checks import is_one_of
-from quietharm.deeds import all_steps, cheapest_ways, harms_of, history_to, last_state, steps
+from quietharm.deeds import all_steps, harms_of, last_state, steps
 from quietharm.errors import BadWish
 from quietharm.keeps import check_keep, check_plan
 from quietharm.looks import taken
-from quietharm.states import check_state, first_state, is_state, right_halves, right_ones
+from quietharm.states import are_states, check_state, first_state, right_halves, right_ones
+from quietharm.ways import cheapest_ways, history_to, never_left, shortest_ways
 
 WISHES = ("true", "kept", "left", "open")
 
@@ -89,7 +90,7 @@ def check_wish(wish):
 
 def soonest_ways(keep, plan):
     """A way of the fewest deeds to each state that comes about."""
-    return cheapest_ways(all_steps(keep, plan), lambda deed: 1)
+    return shortest_ways(all_steps(keep, plan))
 
 
 def first_failing(plan, ways, wish):
@@ -126,12 +127,5 @@ def is_fulfilled_for(plan, state, block, wish):
 
 def is_closed(keep, plan, states):
     """Whether the first state is in a list of states, and with each state in it all to which a possible deed leads."""
-    if not all([is_state(keep, plan, state) for state in states]):
-        return False
-    known = {state: True for state in states}
-    if first_state(keep, plan) not in known:
-        return False
-    for state in known:
-        if not all([later in known for deed, later in steps(keep, plan, state)]):
-            return False
-    return True
+    return (are_states(keep, plan, states)
+            and never_left(states, first_state(keep, plan), lambda state: steps(keep, plan, state)))

@@ -1,10 +1,11 @@
 """What sums see: of what shape the copies that are not right are, and which shapes pass nevertheless."""
 
-from quietharm.deeds import history_to, last_state
+from quietharm.deeds import last_state
 from quietharm.judging import is_closed, soonest_ways
 from quietharm.keeps import check_keep, check_plan
 from quietharm.looks import passing
 from quietharm.states import check_block, check_state, halves_on, shelves_left
+from quietharm.ways import history_to
 
 SHAPES = ("old", "strange", "torn", "worn")
 

@@ -33,6 +33,11 @@ def is_state(keep, plan, thing):
             and all([are_numbered(ages_left(shelves, block)) for block in range(keep.blocks)]))
 
 
+def are_states(keep, plan, things):
+    """Whether all of some things are states."""
+    return all([is_state(keep, plan, thing) for thing in things])
+
+
 def right_shelves(keep, plan, state, block):
     """The shelves that were not put out with a right copy of the block, ascending."""
     check_state(keep, plan, state)

@@ -46,6 +46,9 @@ STATEMENTS = (ast.Assign, ast.AugAssign, ast.AnnAssign, ast.If, ast.While, ast.F
 FUNCTIONS = (ast.FunctionDef, ast.Lambda)
 COMPREHENSIONS = (ast.ListComp, ast.SetComp, ast.DictComp, ast.GeneratorExp)
 ON_THE_SPOT = {"zip", "enumerate", "reversed", "range", "items", "keys", "values"}
+TAKES_ON_THE_SPOT = {"list", "tuple", "dict", "sorted", "sum", "any", "all", "enumerate", "zip", "bytes", "min", "max",
+                     "join", "len", "reversed", "iter"}
+EXIT_ROWS = (ast.Pass, ast.Return, ast.Assign, ast.AugAssign, ast.If, ast.Expr)
 
 
 def faults(package, files):
@@ -289,12 +292,22 @@ def function_faults(node):
             yield "L4", node
     if node.name.startswith("__") and (not in_class or node.name[2:-2] not in DUNDERS):
         yield "L5", node
+    if node.name == "__exit__":
+        for part in node.body:
+            if not isinstance(part, EXIT_ROWS) or isinstance(part, ast.Assign) and not is_simple(part.value):
+                yield "L6", part
     if node.name == "__len__":
         for part in ast.walk(node):
             if isinstance(part, ast.Return) and not is_length(part.value):
                 yield "L28", node
     if told.kwonlyargs and node.name.startswith("__") and node.name != "__init__":
         yield "L4", node
+
+
+def is_simple(value):
+    """Whether a value is a name, an attribute, a literal, or a list or tuple of such."""
+    kinds = (ast.Name, ast.Attribute, ast.Constant, ast.List, ast.Tuple, ast.expr_context)
+    return all(isinstance(part, kinds) for part in ast.walk(value))
 
 
 def is_length(value):
@@ -316,6 +329,9 @@ def class_faults(node):
 
 
 def call_faults(node, own):
+    taker = getattr(node.func, "id", None) or getattr(node.func, "attr", None)
+    if taker not in TAKES_ON_THE_SPOT and any(is_on_the_spot(value) for value in node.args):
+        yield "L23", node
     if isinstance(node.func, ast.Name):
         name = node.func.id
         given = {word.arg for word in node.keywords}
