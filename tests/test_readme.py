@@ -4,6 +4,8 @@ import doctest
 import pathlib
 import unittest
 
+NAMES = ("keeps", "deeds", "rounds", "judging", "sights", "prices", "alike", "dangers", "desks", "texts", "outing",
+         "blaming", "costing")
 FOLDER = pathlib.Path(__file__).resolve().parent
 
 
@@ -23,7 +25,7 @@ class InterfaceTest(unittest.TestCase):
     def test_examples_of_each_section(self):
         sections = (FOLDER / "examples.md").read_text(encoding="ascii").split("\n## ")[1:]
         names = [section.split("\n")[0] for section in sections]
-        self.assertEqual(names, [f"quietharm/{name}.py" for name in ("keeps", "deeds", "rounds", "judging", "sights")])
+        self.assertEqual(names, [f"quietharm/{name}.py" for name in NAMES])
         for name, section in zip(names, sections):
             with self.subTest(name=name):
                 found = outcome(name, section)
