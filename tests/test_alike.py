@@ -236,7 +236,8 @@ class ShowsTest(Case):
             self.assert_alike(False, pairs + [odd])
         self.assert_alike(False, pairs + [(aged, aged)])
         for odd in ((START,), (START, START, START), START, (), ((), ()), (START, None), (START, START[:2]),
-                    (START, one(right(), right())), (START, one(right(note=0))), (None, None)):
+                    (START, one(right(), right())), (START, one(right(note=0))), (None, None), (None, START),
+                    (START[:2], START), (one(right(), right()), START), (one(right(note=0)), START), [START, START]):
             self.assert_alike(False, pairs + [odd])
             self.assert_alike(False, [odd])
 
